@@ -1,0 +1,1 @@
+"""Foxyard: a fox and a hen over yards, worked out backwards."""
